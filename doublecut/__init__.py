@@ -1,0 +1,1 @@
+"""Doublecut: chains of links, cut twice and joined anew."""

@@ -1,0 +1,152 @@
+"""The interface: its names and parameters; [0] to [3] for each function of it."""
+
+import copy
+import importlib
+import inspect
+import unittest
+
+from doublecut.errors import Unlike
+
+from tests.helpers import ODD_VALUES, WRONG_LAYS, strict, tells
+
+ONE, OTHER, THIRD = (3, ((0, 1), (2, 3))), (3, ((1, 2), (4, 5))), (3, ((0, 5),))
+STEP = (((0, 1),), ((1, 4),))
+CHAINS = (((1, -2),), ((3,),))
+
+# each function with its parameters, in their order, and valid arguments
+STAGE_ONE = {
+    "lays": {
+        "need_lay": {"lay": ONE}, "need_several": {"several": (ONE, OTHER)}, "is_lay": {"value": ONE},
+        "need_two": {"one": ONE, "other": OTHER}, "free_ends": {"lay": ONE}, "mate_of": {"lay": ONE, "end": 1},
+        "renamed": {"lay": ONE, "order": (2, -3, 1)}, "without": {"lay": ONE, "link": 2},
+        "beside": {"one": ONE, "other": OTHER},
+    },
+    "chains": {
+        "chains_of": {"lay": ONE}, "need_chains": {"chains": CHAINS}, "lay_of": {"chains": CHAINS},
+        "tidied": {"chains": CHAINS}, "chain_with": {"lay": ONE, "link": 2}, "count_chains": {"lay": ONE},
+    },
+    "steps": {
+        "all_steps": {"lay": ONE}, "is_step": {"lay": ONE, "value": STEP}, "need_step": {"lay": ONE, "step": STEP},
+        "lay_behind": {"lay": ONE, "step": STEP}, "step_back": {"lay": ONE, "step": STEP},
+        "step_between": {"one": ONE, "other": OTHER}, "sort_of": {"lay": ONE, "step": STEP},
+        "change_of": {"lay": ONE, "step": STEP},
+    },
+    "histories": {
+        "need_history": {"lay": ONE, "history": (STEP,)}, "is_history": {"lay": ONE, "value": (STEP,)},
+        "last_lay": {"lay": ONE, "history": (STEP,)}, "lays_along": {"lay": ONE, "history": (STEP,)},
+        "backwards": {"lay": ONE, "history": (STEP,)}, "plain_history": {"one": ONE, "other": OTHER},
+        "shortened": {"lay": ONE, "history": (STEP,)}, "comes_again": {"lay": ONE, "history": (STEP,)},
+        "touched": {"lay": ONE, "history": (STEP,)},
+    },
+}
+MODULES = {**STAGE_ONE}
+
+# values that no argument of this name can be, beside a lay of three links, and how they are refused
+WRONG_HISTORIES = [(value, 0 if isinstance(value, tuple) else None) for value in ODD_VALUES if value != ()]
+WRONG_LOTS = [(value, (0,) if isinstance(value, tuple) and value else ()) for value in ODD_VALUES]
+WRONG = {
+    "lay": [(lay, "BadLay", "place", place) for lay, place in WRONG_LAYS],
+    "several": [((ONE, lay), "BadSeveral", "place", 1) for lay, _ in WRONG_LAYS]
+    + [(value, "BadSeveral", "place", None) for value in (None, True, 1, "", b"", [ONE], (), (ONE,) * 7, {0: ONE})],
+    "end": [(value, "BadEnd", "value", value) for value in ODD_VALUES + [6] if strict(value) not in ("0", "1", "2")],
+    "link": [(value, "BadLink", "value", value) for value in ODD_VALUES + [3] if strict(value) not in ("0", "1", "2")],
+    "order": [(value, "BadNumber", "value", value) for value in ODD_VALUES + [[2, -3, 1], (1, 2, 4)]],
+    "chains": [(value, "BadChains", "place", ()) for value in (None, True, 1, "", b"", [], (), ((), ()), [(), ()])]
+    + [((None, ()), "BadChains", "place", (0,)), (((), None), "BadChains", "place", (1,))],
+    "step": [(value, "BadStep", "value", value) for value in ODD_VALUES + [list(STEP), (((2, 3),), ((0, 1),))]],
+    "history": [(value, "BadHistory", "place", place) for value, place in WRONG_HISTORIES],
+    "links": [
+        (value, "BadNumber", "value", value) for value in ODD_VALUES + [0] if strict(value) not in ("1", "2")
+    ],
+    "lines": [(value, "BadNumber", "value", value) for value in (None, True, False, -1, 13, 10 ** 999, "1", [1], (1,))],
+    "number": [
+        (value, "BadNumber", "value", value) for value in (None, True, False, -1, 76, 10 ** 999, "1", b"1", [1], (1,))
+    ],
+    "many": [
+        (value, "BadNumber", "value", value) for value in ODD_VALUES if strict(value) not in ("0", "1", "2", "13")
+    ],
+    "paper": [(value, "BadPaper", "word", "form") for value in ODD_VALUES],
+    "lot": [(value, "BadLot", "place", place) for value, place in WRONG_LOTS],
+}
+for same, name in (("one", "lay"), ("other", "lay"), ("third", "lay"), ("rings", "lines"), ("most", "many")):
+    WRONG[same] = WRONG[name]
+
+
+def wrong_for(name, parameter):
+    if parameter == "value":
+        return WRONG["lot"] if name == "need_lot" else []
+    return WRONG[parameter]
+
+
+def all_functions():
+    for module, functions in MODULES.items():
+        for name, valid in functions.items():
+            yield getattr(importlib.import_module("doublecut." + module), name), valid
+
+
+class Interface(unittest.TestCase):
+    def test_names_and_parameters(self):
+        for module, functions in MODULES.items():
+            loaded = importlib.import_module("doublecut." + module)
+            for name, valid in functions.items():
+                call = getattr(loaded, name)
+                self.assertTrue(inspect.isfunction(call))
+                self.assertEqual(call.__module__, "doublecut." + module)
+                told = inspect.signature(call).parameters
+                self.assertEqual(list(told), list(valid), name)
+                for parameter in told.values():
+                    self.assertEqual(parameter.kind, inspect.Parameter.POSITIONAL_OR_KEYWORD)
+                    self.assertIs(parameter.default, inspect.Parameter.empty)
+
+    def test_by_position_and_by_name_and_again(self):
+        for call, valid in all_functions():
+            told = strict(list(valid.values()))
+            found = tells(call, *valid.values())
+            self.assertEqual(found[0], "value", (call, found))
+            self.assertEqual(strict(tells(call, **valid)), strict(found), call)
+            backwards = dict(list(valid.items())[::-1])
+            self.assertEqual(strict(tells(call, **backwards)), strict(found), call)
+            self.assertEqual(strict(tells(call, *valid.values())), strict(found), call)
+            self.assertEqual(strict(list(valid.values())), told)
+
+    def test_wrong_values_of_each_argument(self):
+        for call, valid in all_functions():
+            for name in valid:
+                for value, error, field, told in wrong_for(call.__name__, name):
+                    kept = copy.deepcopy(value)
+                    found = tells(call, **{**valid, name: value})
+                    self.assertEqual(strict(found), strict((error, {field: told})), (call, name, value))
+                    self.assertEqual(strict(value), strict(kept))
+
+    def test_the_first_wrong_argument_is_refused(self):
+        for call, valid in all_functions():
+            names = [name for name in valid if wrong_for(call.__name__, name)]
+            for at, name in enumerate(names):
+                for value, error, field, told in wrong_for(call.__name__, name)[::3]:
+                    for behind in (0, -1):
+                        others = {other: wrong_for(call.__name__, other)[behind][0] for other in names[at + 1:]}
+                        found = tells(call, **{**valid, name: value, **others})
+                        self.assertEqual(strict(found), strict((error, {field: told})), (call, name, value))
+
+    def test_unlike_lays_behind_both_and_ahead_of_the_rest(self):
+        for call, valid in all_functions():
+            lays = [name for name in valid if name in ("one", "third", "other")]
+            if len(lays) < 2 or call.__name__ == "beside":
+                continue
+            rest = {name: WRONG[name][0][0] for name in valid if name not in lays}
+            for name in lays:
+                for lay in ((2, ()), (12, ((0, 1),)), (4, ((0, 1), (2, 3)))):
+                    self.assertEqual(tells(call, **{**valid, name: lay}), ("Unlike", {}), (call, name))
+                    self.assertEqual(tells(call, **{**valid, **rest, name: lay}), ("Unlike", {}), (call, name))
+        self.assertEqual(vars(Unlike()), {})
+
+    def test_is_functions_take_any_value(self):
+        for module, name in (("lays", "is_lay"), ("steps", "is_step"), ("histories", "is_history")):
+            call = getattr(importlib.import_module("doublecut." + module), name)
+            for value in ODD_VALUES:
+                told = [value] if name == "is_lay" else [ONE, value]
+                self.assertEqual(strict(call(*told)), strict(name == "is_history" and strict(value) == "()"))
+
+
+if __name__ == "__main__":
+    unittest.main()

@@ -11,6 +11,7 @@ from tests.helpers import ODD_VALUES, WRONG_LAYS, strict, tells
 
 ONE, OTHER, THIRD = (3, ((0, 1), (2, 3))), (3, ((1, 2), (4, 5))), (3, ((0, 5),))
 STEP = (((0, 1),), ((1, 4),))
+LOT = (("odd", 1), ("odd", 3), ("open", 2), ("shut", 4))
 CHAINS = (((1, -2),), ((3,),))
 
 # each function with its parameters, in their order, and valid arguments
@@ -39,7 +40,36 @@ STAGE_ONE = {
         "touched": {"lay": ONE, "history": (STEP,)},
     },
 }
-MODULES = {**STAGE_ONE}
+STAGE_TWO = {
+    "counted": {
+        "count_lays": {"links": 3}, "count_with": {"links": 3, "lines": 1, "rings": 2}, "all_lays": {"links": 3},
+        "lay_number": {"lay": ONE}, "lay_by_number": {"links": 3, "number": 5}, "count_steps": {"lay": ONE},
+        "count_histories": {"lay": ONE, "many": 7},
+    },
+    "webs": {
+        "pieces": {"one": ONE, "other": OTHER}, "kinds": {"one": ONE, "other": OTHER},
+        "rows": {"one": ONE, "other": OTHER}, "row_of": {"one": ONE, "other": OTHER, "end": 4},
+    },
+    "costs": {
+        "least_steps": {"one": ONE, "other": OTHER}, "is_between": {"one": ONE, "third": THIRD, "other": OTHER},
+        "within_paper": {"one": ONE, "other": OTHER, "most": 3},
+        "check_within": {"one": ONE, "other": ONE, "most": 3, "paper": ("within", ())},
+    },
+    "good": {
+        "change": {"one": ONE, "other": OTHER, "step": STEP}, "is_good": {"one": ONE, "other": OTHER, "step": STEP},
+        "good_steps": {"one": ONE, "other": OTHER}, "first_good": {"one": ONE, "other": OTHER},
+        "good_counts": {"one": ONE, "other": OTHER}, "sorts": {"one": ONE, "other": OTHER},
+    },
+    "spheres": {
+        "sphere_size": {"lay": ONE, "number": 2}, "sphere_sizes": {"lay": ONE}, "sphere": {"lay": ONE, "number": 2},
+        "pairs_count": {"links": 3, "number": 2},
+    },
+    "lots": {
+        "need_lot": {"value": LOT}, "lot_of": {"one": ONE, "other": OTHER}, "lot_cost": {"lot": LOT},
+        "lot_ways": {"lot": LOT}, "lot_count": {"lot": LOT}, "lot_product": {"lot": LOT}, "lays_of": {"lot": LOT},
+    },
+}
+MODULES = {**STAGE_ONE, **STAGE_TWO}
 
 # values that no argument of this name can be, beside a lay of three links, and how they are refused
 WRONG_HISTORIES = [(value, 0 if isinstance(value, tuple) else None) for value in ODD_VALUES if value != ()]

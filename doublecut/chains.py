@@ -60,6 +60,11 @@ def tidy_chains(lay):
     return tuple(lines), tuple(ring_readings(lay, lines))
 
 
+def has_ring(lay):
+    """Whether what is a lay has a ring."""
+    return sum([len(reading) for reading in line_readings(lay)]) < lay[0]
+
+
 def chains_of(lay):
     """The tidy chains of a lay; BadLay."""
     return tidy_chains(need_lay(lay))

@@ -19,11 +19,16 @@ def least_steps(one, other):
     return cost_of(one, other)
 
 
+def stands_between(one, third, other):
+    """Whether the lay third is between the two others, of what are lays of as many links."""
+    return cost_of(one, third) + cost_of(third, other) == cost_of(one, other)
+
+
 def is_between(one, third, other):
     """Whether the lay third is between the two others; BadLay, Unlike."""
     lays = [need_lay(one), need_lay(third), need_lay(other)]
     need_alike(lays)
-    return cost_of(one, third) + cost_of(third, other) == cost_of(one, other)
+    return stands_between(one, third, other)
 
 
 def making_step(lay, joint):

@@ -43,6 +43,13 @@ def need_alike(lays):
         raise Unlike()
 
 
+def need_third(one, third):
+    """A lay of as many links as one itself; BadLay, Unlike."""
+    need_lay(third)
+    need_alike([one, third])
+    return third
+
+
 def need_several(several):
     """The tuple of several lays itself; BadSeveral, Unlike."""
     if not isinstance(several, tuple) or not 1 <= len(several) <= MOST_LAYS:

@@ -1,6 +1,7 @@
 """What several tests use: a plain model of lays, wrong values of every kind, and how calls end."""
 
 import random
+from functools import lru_cache
 from itertools import product
 
 ODD_VALUES = [
@@ -94,6 +95,58 @@ def distances(lay, behind):
                     further.append(met)
         edge = further
     return away
+
+
+@lru_cache(None)
+def model_behind(lay):
+    """All steps of a lay of few links, ascending, with the lays behind them; kept."""
+    return model_steps(lay, model_kept_lays(lay[0]))
+
+
+@lru_cache(None)
+def model_kept_lays(links):
+    return model_lays(links)
+
+
+@lru_cache(None)
+def model_away(lay):
+    """A dict of the least number of steps between a lay of few links and each other one; kept."""
+    return distances(lay, lambda here: [met for _, met in model_behind(here)])
+
+
+def model_least(one, other):
+    """All least histories from one to other, ascending, by a plain search over all steps."""
+    away = model_away(other)
+    if one == other:
+        return [()]
+    return [
+        (step, *behind) for step, met in model_behind(one) if away[met] == away[one] - 1
+        for behind in model_least(met, other)
+    ]
+
+
+def model_between(one, other):
+    """All lays that are just as far away from one and other together as they are from one another."""
+    ahead, behind = model_away(one), model_away(other)
+    return [lay for lay in model_kept_lays(one[0]) if ahead[lay] + behind[lay] == ahead[other]]
+
+
+def lay_of_lines(lines):
+    """The lay of lines, each a tuple of its links told from 1 on, below 0 if they are come to by the far end."""
+    joints = []
+    for line in lines:
+        for told, after in zip(line, line[1:]):
+            leaving = 2 * told - 1 if told > 0 else -2 * told - 2
+            coming = 2 * after - 2 if after > 0 else -2 * after - 1
+            joints.append(tuple(sorted((leaving, coming))))
+    return sum(len(line) for line in lines), tuple(sorted(joints))
+
+
+def some_lines(links, many, draw):
+    """The lay of so many links in so many lines at most, drawn by a Random."""
+    order = [link * draw.choice((1, -1)) for link in draw.sample(range(1, links + 1), links)]
+    cuts = sorted(draw.sample(range(1, links), min(many - 1, links - 1)))
+    return lay_of_lines([tuple(order[at:end]) for at, end in zip([0] + cuts, cuts + [links])])
 
 
 def some_lay(links, joints, seed):

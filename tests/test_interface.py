@@ -69,7 +69,36 @@ STAGE_TWO = {
         "lot_ways": {"lot": LOT}, "lot_count": {"lot": LOT}, "lot_product": {"lot": LOT}, "lays_of": {"lot": LOT},
     },
 }
-MODULES = {**STAGE_ONE, **STAGE_TWO}
+LINE, BENT, TORN = (3, ((1, 2), (3, 4))), (3, ((1, 3), (2, 4))), (3, ((0, 2),))
+LINES = (LINE, BENT)
+STAGE_THREE = {
+    "least": {
+        "least_count": {"one": ONE, "other": OTHER}, "a_least": {"one": ONE, "other": OTHER},
+        "is_least": {"one": ONE, "other": OTHER, "value": ()}, "all_least": {"one": ONE, "other": OTHER},
+    },
+    "numbered": {
+        "least_at": {"one": ONE, "other": OTHER, "number": 1},
+        "number_of": {"one": ONE, "other": OTHER, "history": (STEP,)}, "first_counts": {"one": ONE, "other": OTHER},
+        "count_through": {"one": ONE, "other": OTHER, "third": THIRD},
+    },
+    "between": {
+        "lies_between": {"one": ONE, "other": OTHER, "third": THIRD}, "between_counts": {"one": ONE, "other": OTHER},
+        "all_between": {"one": ONE, "other": OTHER}, "joints_between": {"one": ONE, "other": OTHER},
+        "free_between": {"one": ONE, "other": OTHER},
+    },
+    "smooth": {"smooth_history": {"one": LINE, "other": TORN}, "is_smooth": {"one": LINE, "value": ()}},
+    "stretches": {
+        "stretches": {"several": LINES, "number": 1}, "is_kept": {"several": LINES, "lot": (0, 2)},
+        "lot_paper": {"several": LINES, "lot": (0, 2)},
+        "check_lot": {"several": LINES, "lot": (0, 2), "paper": ("torn", 0, 0, 1, 2)},
+    },
+    "kept": {
+        "kept_lots": {"several": LINES}, "strong_lots": {"several": LINES}, "greatest_lots": {"several": LINES},
+        "many_kept": {"several": LINES}, "shared_joints": {"several": LINES},
+        "least_lot": {"several": LINES, "one": 0, "other": 2},
+    },
+}
+MODULES = {**STAGE_ONE, **STAGE_TWO, **STAGE_THREE}
 
 # values that no argument of this name can be, beside a lay of three links, and how they are refused
 WRONG_HISTORIES = [(value, 0 if isinstance(value, tuple) else None) for value in ODD_VALUES if value != ()]
@@ -101,11 +130,29 @@ WRONG = {
 for same, name in (("one", "lay"), ("other", "lay"), ("third", "lay"), ("rings", "lines"), ("most", "many")):
     WRONG[same] = WRONG[name]
 
+# the same, where a module or a function has arguments of another kind by these names
+WRONG_LINKS = [(value, "BadLink", "value", value) for value in ODD_VALUES + [[0, 1], (0, 0), (1, 0), (0, 3), {}]]
+WRONG_SEVERAL = WRONG["several"] + [
+    ((LINE, ONE), "BadSeveral", "place", 1), ((LINE, (2, ()), (0, ())), "BadSeveral", "place", 2),
+]
+WRONG_HERE = {
+    ("need_lot", "value"): WRONG["lot"],
+    ("kept", "one"): WRONG["link"], ("kept", "other"): WRONG["link"],
+    ("stretches", "number"): [row for row in WRONG_LINKS if strict(row[0]) not in ("0", "1")],
+    ("stretches", "lot"): [row for row in WRONG_LINKS if strict(row[0]) not in ("(0,)", "(0, 1)")],
+    ("stretches", "several"): WRONG_SEVERAL, ("kept", "several"): WRONG_SEVERAL,
+}
 
-def wrong_for(name, parameter):
-    if parameter == "value":
-        return WRONG["lot"] if name == "need_lot" else []
-    return WRONG[parameter]
+
+def module_of(call):
+    return call.__module__.split(".")[-1]
+
+
+def wrong_for(call, parameter):
+    for name in (call.__name__, module_of(call)):
+        if (name, parameter) in WRONG_HERE:
+            return WRONG_HERE[(name, parameter)]
+    return WRONG.get(parameter, [])
 
 
 def all_functions():
@@ -142,7 +189,7 @@ class Interface(unittest.TestCase):
     def test_wrong_values_of_each_argument(self):
         for call, valid in all_functions():
             for name in valid:
-                for value, error, field, told in wrong_for(call.__name__, name):
+                for value, error, field, told in wrong_for(call, name):
                     kept = copy.deepcopy(value)
                     found = tells(call, **{**valid, name: value})
                     self.assertEqual(strict(found), strict((error, {field: told})), (call, name, value))
@@ -150,32 +197,43 @@ class Interface(unittest.TestCase):
 
     def test_the_first_wrong_argument_is_refused(self):
         for call, valid in all_functions():
-            names = [name for name in valid if wrong_for(call.__name__, name)]
+            names = [name for name in valid if wrong_for(call, name)]
             for at, name in enumerate(names):
-                for value, error, field, told in wrong_for(call.__name__, name)[::3]:
+                for value, error, field, told in wrong_for(call, name)[::3]:
                     for behind in (0, -1):
-                        others = {other: wrong_for(call.__name__, other)[behind][0] for other in names[at + 1:]}
+                        others = {other: wrong_for(call, other)[behind][0] for other in names[at + 1:]}
                         found = tells(call, **{**valid, name: value, **others})
                         self.assertEqual(strict(found), strict((error, {field: told})), (call, name, value))
 
     def test_unlike_lays_behind_both_and_ahead_of_the_rest(self):
         for call, valid in all_functions():
             lays = [name for name in valid if name in ("one", "third", "other")]
-            if len(lays) < 2 or call.__name__ == "beside":
+            if len(lays) < 2 or call.__name__ == "beside" or module_of(call) == "kept":
                 continue
-            rest = {name: WRONG[name][0][0] for name in valid if name not in lays}
+            rest = {name: None for name in valid if name not in lays}
             for name in lays:
                 for lay in ((2, ()), (12, ((0, 1),)), (4, ((0, 1), (2, 3)))):
                     self.assertEqual(tells(call, **{**valid, name: lay}), ("Unlike", {}), (call, name))
                     self.assertEqual(tells(call, **{**valid, **rest, name: lay}), ("Unlike", {}), (call, name))
         self.assertEqual(vars(Unlike()), {})
 
+    def test_unlike_several_ahead_of_the_rest(self):
+        for call, valid in all_functions():
+            if "several" in valid:
+                rest = {name: None for name in valid if name != "several"}
+                for several in ((LINE, (2, ())), ((2, ()), LINE, LINE), (LINE, LINE, (4, ((0, 1),)))):
+                    self.assertEqual(tells(call, **{**valid, "several": several}), ("Unlike", {}), call)
+                    self.assertEqual(tells(call, **{**rest, "several": several}), ("Unlike", {}), call)
+
     def test_is_functions_take_any_value(self):
-        for module, name in (("lays", "is_lay"), ("steps", "is_step"), ("histories", "is_history")):
-            call = getattr(importlib.import_module("doublecut." + module), name)
-            for value in ODD_VALUES:
-                told = [value] if name == "is_lay" else [ONE, value]
-                self.assertEqual(strict(call(*told)), strict(name == "is_history" and strict(value) == "()"))
+        met = []
+        for call, valid in all_functions():
+            if list(valid)[-1] == "value" and call.__name__ != "need_lot":
+                met.append(call.__name__)
+                for value in ODD_VALUES:
+                    wanted = strict(value) == "()" and call.__name__ in ("is_history", "is_smooth")
+                    self.assertEqual(strict(call(**{**valid, "value": value})), strict(wanted), (call, value))
+        self.assertEqual(met, ["is_lay", "is_step", "is_history", "is_least", "is_smooth"])
 
 
 if __name__ == "__main__":

@@ -71,6 +71,7 @@ STAGE_TWO = {
 }
 LINE, BENT, TORN = (3, ((1, 2), (3, 4))), (3, ((1, 3), (2, 4))), (3, ((0, 2),))
 LINES = (LINE, BENT)
+SINGLE_TREES = (("link", 2), ("link", 0), ("link", 1))
 STAGE_THREE = {
     "least": {
         "least_count": {"one": ONE, "other": OTHER}, "a_least": {"one": ONE, "other": OTHER},
@@ -98,7 +99,38 @@ STAGE_THREE = {
         "least_lot": {"several": LINES, "one": 0, "other": 2},
     },
 }
-MODULES = {**STAGE_ONE, **STAGE_TWO, **STAGE_THREE}
+DOUBLED, PERFECT = (4, ((0, 1), (2, 4))), (4, ((0, 5), (1, 4)))
+STAGE_FOUR = {
+    "forest": {
+        "forest": {"several": LINES}, "check_forest": {"several": (LINE, LINE[:1] + ((),)), "paper": SINGLE_TREES},
+        "count_orders": {"several": LINES}, "is_order": {"several": LINES, "value": (0, 2, 1)},
+        "all_orders": {"several": LINES},
+    },
+    "doubled": {
+        "is_perfect": {"lay": DOUBLED}, "half": {"lay": PERFECT}, "doublings": {"lay": ONE},
+        "count_doublings": {"lay": ONE}, "doubling_at": {"lay": ONE, "number": 3},
+        "is_doubling": {"lay": ONE, "value": (6, ())}, "twice": {"lay": ONE},
+    },
+    "halves": {
+        "twin_pieces": {"lay": DOUBLED}, "halving_cost": {"lay": DOUBLED}, "nearest_perfect": {"lay": DOUBLED},
+        "nearest_halves": {"lay": DOUBLED},
+    },
+    "halving": {
+        "good_halvings": {"lay": DOUBLED}, "halving": {"lay": DOUBLED}, "halved": {"lay": DOUBLED},
+        "halving_paper": {"lay": DOUBLED},
+        "check_halving": {"lay": PERFECT, "paper": ((), (("path", 1),) * 2 + (("ring", 2),))},
+        "count_halvings": {"lay": DOUBLED, "many": 2},
+    },
+    "single": {
+        "is_single": {"lay": ONE, "step": STEP}, "single_steps": {"lay": ONE},
+        "single_number": {"one": ONE, "other": OTHER}, "single_count": {"one": ONE, "other": OTHER},
+        "single_at": {"one": ONE, "other": OTHER, "number": 1},
+        "single_place": {"one": ONE, "other": OTHER, "history": (STEP,)},
+    },
+}
+MODULES = {**STAGE_ONE, **STAGE_TWO, **STAGE_THREE, **STAGE_FOUR}
+
+IS_FUNCTIONS = ["is_lay", "is_step", "is_history", "is_least", "is_smooth", "is_order", "is_doubling"]
 
 # values that no argument of this name can be, beside a lay of three links, and how they are refused
 WRONG_HISTORIES = [(value, 0 if isinstance(value, tuple) else None) for value in ODD_VALUES if value != ()]
@@ -140,7 +172,9 @@ WRONG_HERE = {
     ("kept", "one"): WRONG["link"], ("kept", "other"): WRONG["link"],
     ("stretches", "number"): [row for row in WRONG_LINKS if strict(row[0]) not in ("0", "1")],
     ("stretches", "lot"): [row for row in WRONG_LINKS if strict(row[0]) not in ("(0,)", "(0, 1)")],
-    ("stretches", "several"): WRONG_SEVERAL, ("kept", "several"): WRONG_SEVERAL,
+    ("stretches", "several"): WRONG_SEVERAL, ("kept", "several"): WRONG_SEVERAL, ("forest", "several"): WRONG_SEVERAL,
+    ("forest", "paper"): [row for row in WRONG["paper"] if row[0] != ()] + [((), "BadPaper", "word", "lots")],
+    ("halving", "paper"): [row for row in WRONG["paper"] if not isinstance(row[0], tuple) or len(row[0]) != 2],
 }
 
 
@@ -233,7 +267,7 @@ class Interface(unittest.TestCase):
                 for value in ODD_VALUES:
                     wanted = strict(value) == "()" and call.__name__ in ("is_history", "is_smooth")
                     self.assertEqual(strict(call(**{**valid, "value": value})), strict(wanted), (call, value))
-        self.assertEqual(met, ["is_lay", "is_step", "is_history", "is_least", "is_smooth"])
+        self.assertEqual(met, IS_FUNCTIONS)
 
 
 if __name__ == "__main__":

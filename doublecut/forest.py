@@ -161,7 +161,8 @@ def listed_in(tree):
 
 def listed_mixed(trees):
     """A list of the orders of the links of trees in any order."""
-    return [order for mixed in permutations(list(trees)) for order in listed_along(mixed)]
+    several = list(trees)
+    return [order for mixed in permutations(several) for order in listed_along(mixed)]
 
 
 def all_orders(several):

@@ -67,8 +67,8 @@ def leads_to_half(lay, value):
 
 def are_pieces(value, known):
     """Whether any value is just these PIECES."""
-    # what equals them has words in their places, but may have True for 1
-    return isinstance(value, tuple) and value == known and all([is_int(ties) for _, ties in value])
+    # what equals them is a tuple of pairs, but may have True for 1
+    return value == known and all([is_int(ties) for _, ties in value])
 
 
 def check_halving(lay, paper):

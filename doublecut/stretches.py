@@ -133,8 +133,8 @@ def are_torn(several, lot, told):
     if not is_from(between, 0, several[0][0] - 1) or between in lot:
         return False
     places = places_in(several[number])
-    lines = [places[link][0] for link in (one, between, other)]
-    return lines[0] == lines[1] == lines[2] and places[one] < places[between] < places[other]
+    # what stands between two links of one line is in this line itself
+    return places[one][0] == places[other][0] and places[one] < places[between] < places[other]
 
 
 def is_as_told(several, lot, word, told):

@@ -135,7 +135,10 @@ class Papers(unittest.TestCase):
                 self.assertEqual(strict(tells(check_lot, several, lot, value)), strict(wanted), (lot, value))
 
     def test_all_small_papers(self):
-        several = (lay_of_lines([(1, 3, 2)]), lay_of_lines([(2, -1), (3,)]))
+        self.small_papers((lay_of_lines([(1, 3, 2)]), lay_of_lines([(2, -1), (3,)])))
+        self.small_papers((lay_of_lines([(1,), (3, -2)]), lay_of_lines([(2,), (3, 1)])))
+
+    def small_papers(self, several):
         numbers = (-1, 0, 1, 2, 3)
         for lot in all_lots(3):
             known = {strict(paper) for paper in true_papers(several, lot)}

@@ -128,9 +128,52 @@ STAGE_FOUR = {
         "single_place": {"one": ONE, "other": OTHER, "history": (STEP,)},
     },
 }
-MODULES = {**STAGE_ONE, **STAGE_TWO, **STAGE_THREE, **STAGE_FOUR}
+TREE = ("fork", ("fork", ONE, OTHER), THIRD)
+WORTHS = ((1, 0, 0, 0), ((0, 1, 5), (0, 2, 5), (1, 2, 5)))
+TOLLS, LOTS = (1, 0, 0, 0), (((0, 1, 2), 5),)
+TERM = ("cut", ("beside", ("ring", 1), ("line", 2)), 1)
+STAGE_FIVE = {
+    "middles": {
+        "joint_counts": {"several": (ONE, OTHER)}, "kept_lay": {"several": (ONE, OTHER)},
+        "single_sum": {"several": (ONE, OTHER), "lay": THIRD}, "least_sum": {"several": (ONE, OTHER)},
+        "is_middle": {"several": (ONE, OTHER), "lay": THIRD}, "middle_count": {"several": (ONE, OTHER)},
+        "middles": {"several": (ONE, OTHER)},
+    },
+    "trees": {
+        "need_tree": {"tree": TREE}, "leaves": {"tree": TREE}, "tree_sum": {"tree": TREE},
+        "tree_labels": {"tree": TREE},
+        "labels_sum": {"tree": TREE, "labels": ("fork", ONE, ("fork", OTHER, ONE, OTHER), THIRD)},
+        "are_least": {"tree": TREE, "value": ("fork", ONE, ("fork", OTHER, ONE, OTHER), THIRD)},
+        "tree_paper": {"tree": TREE}, "check_tree": {"tree": ONE, "paper": (ONE, ())},
+    },
+    "worths": {
+        "need_worths": {"worths": WORTHS}, "worth_of": {"worths": WORTHS, "lay": (2, ((0, 1),))},
+        "worths_of": {"several": (ONE, OTHER)}, "common": {"one": ONE, "other": OTHER},
+    },
+    "pairing": {
+        "greatest_worth": {"worths": WORTHS}, "greatest_lay": {"worths": WORTHS}, "count_greatest": {"worths": WORTHS},
+        "sure_joints": {"worths": WORTHS}, "possible_joints": {"worths": WORTHS}, "sure_frees": {"worths": WORTHS},
+        "middle_of": {"several": (ONE, OTHER)}, "count_middles": {"several": (ONE, OTHER)},
+    },
+    "tolls": {
+        "bound_of": {"worths": WORTHS, "tolls": TOLLS, "lots": LOTS}, "tolls_paper": {"worths": WORTHS},
+        "check_tolls": {"worths": WORTHS, "paper": ((2, ((1, 2),)), TOLLS, LOTS)},
+        "tight_joints": {"worths": WORTHS, "paper": ((2, ((1, 2),)), TOLLS, LOTS)},
+        "tight_frees": {"worths": WORTHS, "paper": ((2, ((1, 2),)), TOLLS, LOTS)},
+    },
+    "terms": {
+        "need_term": {"term": TERM}, "lay_of": {"term": TERM}, "terms_in": {"term": TERM},
+        "step_of": {"lay": ONE, "deed": ("cross", 0, 2)}, "deed_of": {"lay": ONE, "step": STEP},
+    },
+}
+MODULES = {**STAGE_ONE, **STAGE_TWO, **STAGE_THREE, **STAGE_FOUR, **STAGE_FIVE}
 
-IS_FUNCTIONS = ["is_lay", "is_step", "is_history", "is_least", "is_smooth", "is_order", "is_doubling"]
+IS_FUNCTIONS = ["is_lay", "is_step", "is_history", "is_least", "is_smooth", "is_order", "is_doubling", "are_least"]
+
+
+def is_pair(value):
+    return isinstance(value, tuple) and len(value) == 2
+
 
 # values that no argument of this name can be, beside a lay of three links, and how they are refused
 WRONG_HISTORIES = [(value, 0 if isinstance(value, tuple) else None) for value in ODD_VALUES if value != ()]
@@ -158,6 +201,19 @@ WRONG = {
     ],
     "paper": [(value, "BadPaper", "word", "form") for value in ODD_VALUES],
     "lot": [(value, "BadLot", "place", place) for value, place in WRONG_LOTS],
+    "tree": [(value, "BadTree", "path", ()) for value in ODD_VALUES]
+    + [(("fork", ONE, lay), "BadTree", "path", (2,)) for lay, _ in WRONG_LAYS]
+    + [(("fork", ONE, (2, ())), "BadTree", "path", (2,)),
+       (("fork", ("fork", ONE, ()), None), "BadTree", "path", (1, 2))],
+    "labels": [(value, "BadPaper", "word", "labels") for value in ODD_VALUES],
+    "worths": [(value, "BadWorths", "place", (0,) if is_pair(value) else ()) for value in ODD_VALUES]
+    + [(((0, 25), ()), "BadWorths", "place", (0,)), (((0, 0), [()]), "BadWorths", "place", (1,)),
+       (((0, 0), (None,)), "BadWorths", "place", (1, 0)), (((0,) * 14, ()), "BadWorths", "place", (0,))],
+    "term": [(value, "BadTerm", "path", ()) for value in ODD_VALUES]
+    + [(("turn", value, 0), "BadTerm", "path", (1,)) for value in ODD_VALUES]
+    + [(("cut", ("bare", 1), 0), "BadTerm", "path", ()),
+       (("turn", ("cut", ("bare", 1), 0), 0), "BadTerm", "path", (1,))],
+    "deed": [(value, "BadStep", "value", value) for value in ODD_VALUES + [("cut", 4), ("cross", 0, 1), ["cut", 0]]],
 }
 for same, name in (("one", "lay"), ("other", "lay"), ("third", "lay"), ("rings", "lines"), ("most", "many")):
     WRONG[same] = WRONG[name]
@@ -174,7 +230,8 @@ WRONG_HERE = {
     ("stretches", "lot"): [row for row in WRONG_LINKS if strict(row[0]) not in ("(0,)", "(0, 1)")],
     ("stretches", "several"): WRONG_SEVERAL, ("kept", "several"): WRONG_SEVERAL, ("forest", "several"): WRONG_SEVERAL,
     ("forest", "paper"): [row for row in WRONG["paper"] if row[0] != ()] + [((), "BadPaper", "word", "lots")],
-    ("halving", "paper"): [row for row in WRONG["paper"] if not isinstance(row[0], tuple) or len(row[0]) != 2],
+    ("trees", "paper"): [(value, "BadPaper", "word", "labels" if is_pair(value) else "form") for value in ODD_VALUES],
+    ("halving", "paper"): [row for row in WRONG["paper"] if not is_pair(row[0])],
 }
 
 

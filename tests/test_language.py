@@ -213,7 +213,22 @@ class Modules(unittest.TestCase):
             for node in tree.body:
                 if isinstance(node, ast.Assign):
                     inner = [part for part in ast.walk(node.value) if isinstance(part, (ast.List, ast.Dict))]
-                    self.assertEqual(inner, [], path)
+                    self.assertIn(inner, ([], [node.value]), path)
+                    if inner:
+                        self.check_only_read(path, tree, node.targets[0].id)
+
+    def check_only_read(self, path, tree, name):
+        """That a list or a dict of a file is only asked by an index, by "in", by "get" or in a loop."""
+        parents = parents_of(tree)
+        for node in ast.walk(tree):
+            if isinstance(node, ast.Name) and node.id == name and isinstance(node.ctx, ast.Load):
+                above = parents[node]
+                if isinstance(above, ast.Attribute):
+                    self.assertIn(above.attr, ("get", "items", "keys", "values"), path)
+                elif isinstance(above, ast.Subscript):
+                    self.assertIsInstance(above.ctx, ast.Load, path)
+                else:
+                    self.assertIsInstance(above, (ast.Compare, ast.For, ast.comprehension), path)
 
 
 class Statements(unittest.TestCase):

@@ -6,10 +6,10 @@ from doublecut.errors import BadStep, BadTerm
 from doublecut.lays import beside, joint_of, made_lay, mates, need_lay, renamed, without
 from doublecut.steps import need_step_of, stepped
 
-MOST_WORDS = 12
+MOST_TERM_WORDS = 12
 MOST_WITHIN = 4
 # each word, how many TERMS and how many integers behind these it wants, and what the integers can be
-WORDS = {
+TERM_FORMS = {
     "bare": (0, 1, 1, 12), "line": (0, 1, 1, 12), "ring": (0, 1, 1, 12), "cross": (1, 2, 0, 23), "cut": (1, 1, 0, 23),
     "turn": (1, 1, 0, 11), "swap": (1, 2, 0, 11), "beside": (2, 0, 0, 0), "out": (1, 1, 0, 11),
 }
@@ -17,19 +17,19 @@ WORDS = {
 
 def many_terms(word):
     """How many TERMS a word wants."""
-    return WORDS[word][0]
+    return TERM_FORMS[word][0]
 
 
 def many_numbers(word):
     """How many integers a word wants."""
-    return WORDS[word][1]
+    return TERM_FORMS[word][1]
 
 
 def has_form(value):
     """Whether a value is a tuple of a word and what it wants, whatever stands in the place of TERMS."""
-    if not isinstance(value, tuple) or value == () or not isinstance(value[0], str) or value[0] not in WORDS:
+    if not isinstance(value, tuple) or value == () or not isinstance(value[0], str) or value[0] not in TERM_FORMS:
         return False
-    terms, numbers, least, most = WORDS[value[0]]
+    terms, numbers, least, most = TERM_FORMS[value[0]]
     if len(value) != 1 + terms + numbers:
         return False
     told = value[1 + terms:]
@@ -45,7 +45,7 @@ def parts_of(term):
 def need_form(term, path, met):
     """Nothing, where all is in form; BadTerm. The paths that were walked ahead of this one stand in met."""
     met.append(path)
-    if len(met) > MOST_WORDS or len(path) > MOST_WITHIN:
+    if len(met) > MOST_TERM_WORDS or len(path) > MOST_WITHIN:
         raise BadTerm(())
     if not has_form(term):
         raise BadTerm(path)

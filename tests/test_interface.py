@@ -166,7 +166,24 @@ STAGE_FIVE = {
         "step_of": {"lay": ONE, "deed": ("cross", 0, 2)}, "deed_of": {"lay": ONE, "step": STEP},
     },
 }
-MODULES = {**STAGE_ONE, **STAGE_TWO, **STAGE_THREE, **STAGE_FOUR, **STAGE_FIVE}
+SAYING = ("or", ("free", 4), ("not", ("away", OTHER, 2)))
+SHEET = "line 3\nlinks 3\nsay or free 4 rings 1\nrow o1.2.3 cross 0 5\ngood o1.2.3 2"
+LOG = ((0, 2), (((0, 1),), ()))
+STAGE_SIX = {
+    "says": {"need_saying": {"lay": ONE, "saying": SAYING}, "is_so": {"lay": ONE, "saying": SAYING}},
+    "lines": {
+        "lay_word": {"lay": ONE}, "term_text": {"term": TERM}, "saying_text": {"lay": ONE, "saying": SAYING},
+        "read_lay": {"text": "o1.2/-3"}, "read_term": {"text": "cut 0 beside ring 1 line 2"},
+        "read_saying": {"lay": ONE, "text": "or free 4 not away 1.2/o3 2"},
+    },
+    "sheets": {"lay_told": {"text": SHEET}, "judged": {"text": SHEET}},
+    "logs": {
+        "seen": {"lay": ONE, "links": (0, 2)}, "many_showing": {"count": 3, "links": (0, 2), "joints": ((0, 4),)},
+        "fitting_rows": {"lay": ONE, "menu": ((), (STEP,)), "log": LOG}, "first_lays": {"many": 3, "log": LOG},
+        "last_lays": {"many": 3, "log": LOG}, "first_false": {"many": 3, "log": LOG},
+    },
+}
+MODULES = {**STAGE_ONE, **STAGE_TWO, **STAGE_THREE, **STAGE_FOUR, **STAGE_FIVE, **STAGE_SIX}
 
 IS_FUNCTIONS = ["is_lay", "is_step", "is_history", "is_least", "is_smooth", "is_order", "is_doubling", "are_least"]
 
@@ -213,6 +230,16 @@ WRONG = {
     + [(("turn", value, 0), "BadTerm", "path", (1,)) for value in ODD_VALUES]
     + [(("cut", ("bare", 1), 0), "BadTerm", "path", ()),
        (("turn", ("cut", ("bare", 1), 0), 0), "BadTerm", "path", (1,))],
+    "saying": [(value, "BadSaying", "path", ()) for value in ODD_VALUES]
+    + [(("and", ("free", 0), value), "BadSaying", "path", (2,)) for value in ODD_VALUES]
+    + [(("free", 6), "BadSaying", "path", ()), (("away", (2, ()), 1), "BadSaying", "path", ())],
+    "text": [(value, "BadText", ("line", "word"), (None, None)) for value in ODD_VALUES if not isinstance(value, str)]
+    + [(value, "BadText", ("line", "word"), (0, 0)) for value in ("", " ", "\n", "x", "lay", "o")],
+    "log": [(value, "BadLog", "place", None) for value in ODD_VALUES] + [(((0,), (None,)), "BadLog", "place", 0)],
+    "menu": [(value, "BadHistory", "place", 0 if isinstance(value, tuple) and value else None)
+             for value in ODD_VALUES if strict(value) != "((), ())"],
+    "count": [(value, "BadNumber", "value", value) for value in ODD_VALUES if strict(value) not in ("1", "2")],
+    "joints": [(value, "BadLog", "place", 0) for value in ODD_VALUES if strict(value) not in ("()", "((0, 1),)")],
     "deed": [(value, "BadStep", "value", value) for value in ODD_VALUES + [("cut", 4), ("cross", 0, 1), ["cut", 0]]],
 }
 for same, name in (("one", "lay"), ("other", "lay"), ("third", "lay"), ("rings", "lines"), ("most", "many")):
@@ -230,6 +257,8 @@ WRONG_HERE = {
     ("stretches", "lot"): [row for row in WRONG_LINKS if strict(row[0]) not in ("(0,)", "(0, 1)")],
     ("stretches", "several"): WRONG_SEVERAL, ("kept", "several"): WRONG_SEVERAL, ("forest", "several"): WRONG_SEVERAL,
     ("forest", "paper"): [row for row in WRONG["paper"] if row[0] != ()] + [((), "BadPaper", "word", "lots")],
+    ("logs", "links"): [row for row in WRONG_LINKS if strict(row[0]) not in ("()", "(0,)", "(0, 1)")],
+    ("logs", "many"): [row for row in WRONG["count"]],
     ("trees", "paper"): [(value, "BadPaper", "word", "labels" if is_pair(value) else "form") for value in ODD_VALUES],
     ("halving", "paper"): [row for row in WRONG["paper"] if not is_pair(row[0])],
 }
@@ -244,6 +273,12 @@ def wrong_for(call, parameter):
         if (name, parameter) in WRONG_HERE:
             return WRONG_HERE[(name, parameter)]
     return WRONG.get(parameter, [])
+
+
+def refused_so(error, field, told):
+    """A text of how a call ends that raises this with one field, or with several of them."""
+    fields = dict(zip(field, told)) if isinstance(field, tuple) else {field: told}
+    return strict((error, fields))
 
 
 def all_functions():
@@ -283,7 +318,7 @@ class Interface(unittest.TestCase):
                 for value, error, field, told in wrong_for(call, name):
                     kept = copy.deepcopy(value)
                     found = tells(call, **{**valid, name: value})
-                    self.assertEqual(strict(found), strict((error, {field: told})), (call, name, value))
+                    self.assertEqual(strict(found), refused_so(error, field, told), (call, name, value))
                     self.assertEqual(strict(value), strict(kept))
 
     def test_the_first_wrong_argument_is_refused(self):
@@ -294,7 +329,7 @@ class Interface(unittest.TestCase):
                     for behind in (0, -1):
                         others = {other: wrong_for(call, other)[behind][0] for other in names[at + 1:]}
                         found = tells(call, **{**valid, name: value, **others})
-                        self.assertEqual(strict(found), strict((error, {field: told})), (call, name, value))
+                        self.assertEqual(strict(found), refused_so(error, field, told), (call, name, value))
 
     def test_unlike_lays_behind_both_and_ahead_of_the_rest(self):
         for call, valid in all_functions():

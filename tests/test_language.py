@@ -214,11 +214,12 @@ class Modules(unittest.TestCase):
                 if isinstance(node, ast.Assign):
                     inner = [part for part in ast.walk(node.value) if isinstance(part, (ast.List, ast.Dict))]
                     self.assertIn(inner, ([], [node.value]), path)
-                    if inner:
-                        self.check_only_read(path, tree, node.targets[0].id)
+                    for other_path, other in trees() if inner else []:
+                        if node.targets[0].id in module_names(other):
+                            self.check_only_read(other_path, other, node.targets[0].id)
 
     def check_only_read(self, path, tree, name):
-        """That a list or a dict of a file is only asked by an index, by "in", by "get" or in a loop."""
+        """That a list or a dict of a file is only asked by an index, by "in", by "get", in a loop, or copied."""
         parents = parents_of(tree)
         for node in ast.walk(tree):
             if isinstance(node, ast.Name) and node.id == name and isinstance(node.ctx, ast.Load):
@@ -227,6 +228,8 @@ class Modules(unittest.TestCase):
                     self.assertIn(above.attr, ("get", "items", "keys", "values"), path)
                 elif isinstance(above, ast.Subscript):
                     self.assertIsInstance(above.ctx, ast.Load, path)
+                elif isinstance(above, ast.Call):
+                    self.assertIn(above.func.id, ("list", "dict", "tuple", "sorted", "len"), path)
                 else:
                     self.assertIsInstance(above, (ast.Compare, ast.For, ast.comprehension), path)
 

@@ -251,6 +251,9 @@ class Bounds(unittest.TestCase):
         bad = ("cut", BARE, 0)
         cases = [
             (("turn", None, 12), ()), (("turn", ("turn", None, 12), 0), (1,)), (("cross", bad, 0, 99), ()),
+            (("cross", bad, 0, 24), ()), (("cut", bad, 24), ()), (("turn", bad, 12), ()), (("swap", bad, 0, 12), ()),
+            (("out", bad, 12), ()), (("cross", bad, 23, 0), (1,)), (("cut", bad, 23), (1,)), (("turn", bad, 11), (1,)),
+            (("swap", bad, 11, 0), (1,)), (("out", bad, 11), (1,)),
             (("cross", bad, 0, 0), ()), (("cross", bad, 0, 9), (1,)), (("beside", bad, None), (2,)),
             (("beside", bad, bad), (1,)), (("beside", BARE, bad), (2,)), (("beside", ("turn", bad, 5), bad), (1, 1)),
             (("beside", ("turn", BARE, 5), bad), (1,)), (("beside", ("bare", 7), ("out", ("bare", 7), 9)), (2,)),

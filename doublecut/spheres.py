@@ -4,7 +4,7 @@ from math import comb
 
 from doublecut.checks import need_links, need_number
 from doublecut.costs import cost_of
-from doublecut.counted import MOST_LAYS_LISTED, MOST_LISTED, listed_lays, pairing_counts
+from doublecut.counted import MOST_LAYS_LISTED, MOST_LISTED, listed_lays
 from doublecut.errors import TooGreat
 from doublecut.lays import need_lay
 

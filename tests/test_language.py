@@ -150,6 +150,13 @@ class Modules(unittest.TestCase):
                     uses.setdefault(name, set()).add(node.module)
         self.no_circle(uses)
 
+    def test_all_imports_are_used(self):
+        for path, tree in trees():
+            met = {node.id for node in ast.walk(tree) if isinstance(node, ast.Name)}
+            for node in tree.body:
+                if isinstance(node, ast.ImportFrom):
+                    self.assertLessEqual({alias.name for alias in node.names}, met, path)
+
     def no_circle(self, uses):
         left = dict(uses)
         while left:
@@ -276,6 +283,23 @@ class Statements(unittest.TestCase):
                     self.assertIn(above.func.id, ("sorted", "len"), path)
                     self.assertEqual(above.keywords, [], path)
 
+    def test_stars_stand_in_literals_and_targets_alone(self):
+        for path, tree in trees():
+            parents = parents_of(tree)
+            for node in ast.walk(tree):
+                if isinstance(node, ast.Starred):
+                    self.assertIsInstance(parents[node], (ast.Tuple, ast.List), (path, node.lineno))
+                if isinstance(node, ast.Call):
+                    self.assertTrue(all(keyword.arg for keyword in node.keywords), (path, node.lineno))
+
+    def test_names_are_given_in_tests_of_if_and_while_alone(self):
+        for path, tree in trees():
+            tests = [node.test for node in ast.walk(tree) if isinstance(node, (ast.If, ast.While))]
+            inner = [part for test in tests for part in ast.walk(test)]
+            for node in ast.walk(tree):
+                if isinstance(node, ast.NamedExpr):
+                    self.assertIn(node, inner, (path, node.lineno))
+
     def test_builtins(self):
         for path, tree in trees():
             parents = parents_of(tree)
@@ -322,6 +346,44 @@ class Statements(unittest.TestCase):
                     if isinstance(inner, ast.Subscript) and isinstance(inner.ctx, (ast.Store, ast.Del)):
                         if isinstance(inner.value, ast.Name):
                             self.assertNotIn(inner.value.id, over, (path, inner.lineno))
+
+    def test_double_underscore_methods(self):
+        for path, tree in trees():
+            for node in ast.walk(tree):
+                if isinstance(node, ast.FunctionDef) and node.name.startswith("__"):
+                    rows = [row for row in node.body if not isinstance(row, ast.Expr) or node.name == "__init__"]
+                    self.check_rows(node.name, rows, path)
+
+    def check_rows(self, name, rows, path):
+        returns = [part for row in rows for part in ast.walk(row) if isinstance(part, ast.Return)]
+        if name == "__init__":
+            self.assertEqual(returns, [], path)
+        if name in ("__len__", "__eq__"):
+            self.assertEqual([rows], [returns], path)
+        if name == "__len__":
+            self.assertEqual(returns[0].value.func.id, "len", path)
+        if name == "__exit__":
+            for row in rows:
+                self.assertIsInstance(row, ast.Assign, path)
+                self.assertTrue(all(isinstance(part, ast.Attribute) for part in [*row.targets, row.value]), path)
+
+    def test_properties_give_an_attribute(self):
+        for path, tree in trees():
+            for node in ast.walk(tree):
+                if isinstance(node, ast.FunctionDef) and node.decorator_list:
+                    self.assertEqual([mark.id for mark in node.decorator_list], ["property"], path)
+                    self.assertIsInstance(node.body[-1], ast.Return, path)
+                    self.assertIsInstance(node.body[-1].value, ast.Attribute, path)
+
+    def test_no_name_is_a_method_and_an_attribute_or_a_property(self):
+        methods, kept = set(), set()
+        for _, tree in trees():
+            for node in ast.walk(tree):
+                if isinstance(node, ast.ClassDef):
+                    methods |= {part.name for part in node.body if isinstance(part, ast.FunctionDef)}
+                if isinstance(node, ast.Attribute) and isinstance(node.ctx, ast.Store):
+                    kept.add(node.attr)
+        self.assertEqual(methods & kept, set())
 
     def test_escapes(self):
         for path in files():
